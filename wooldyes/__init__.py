@@ -1,0 +1,1 @@
+"""Dyeings of wool shared out over the rows of a chart."""
