@@ -3,7 +3,7 @@ import sys
 import unittest
 
 from books import COLOURS, answer_by_the_words, dyeings_of_book, full_book, lines_of, text
-from wooldyes.shares import judge
+from wooldyes.shares import NO_COLOUR, colour_number, judge
 
 
 class Guarded(list):
@@ -36,6 +36,17 @@ class TheRun(JudgeCase):
         self.answers("a 1000 1/", [-6, 5])
         self.answers("a 01 1/", [-6, 3])
         self.answers("a 1 0/", [-6, 4])
+
+
+class Colours(JudgeCase):
+    def test_the_62_bytes_and_their_numbers(self):
+        self.assertEqual([colour_number(byte) for byte in COLOURS], list(range(62)))
+
+    def test_no_other_byte_is_a_colour(self):
+        for byte in range(256):
+            if byte not in COLOURS:
+                self.assertEqual(colour_number(byte), NO_COLOUR)
+                self.answers_raw(bytes([byte]) + b" 1 1\n", [-6, 0])
 
 
 class RightBooks(JudgeCase):
@@ -195,7 +206,8 @@ class WrongTexts(JudgeCase):
 
     def test_bytes_that_no_text_has_at_every_place(self):
         book = b"a 12 34\nb 5 6\n"
-        for place, byte in itertools.product(range(len(book) + 1), (0, 9, 11, 13, 31, 33, 47, 58, 64, 91, 96, 123, 128, 255)):
+        strange = (0, 9, 11, 13, 31, 33, 47, 58, 64, 91, 96, 123, 128, 255)
+        for place, byte in itertools.product(range(len(book) + 1), strange):
             self.answers_raw(book[:place] + bytes([byte]) + book[place:], [-6, place])
 
     def test_a_byte_left_out_at_every_place(self):
