@@ -8,7 +8,7 @@ import re
 import unittest
 
 import wooldyes
-from wooldyes.shares import judge
+from wooldyes.shares import judge, needs
 
 FOLDER = pathlib.Path(wooldyes.__file__).parent
 FILES = sorted(FOLDER.rglob("*.py"))
@@ -49,6 +49,9 @@ class Form(unittest.TestCase):
             judge(list(b"a 10 4\na 14 3\na 11 3\n"))
             judge(list(b"a 01 1\n"))
             judge([0] * 4097)
+            needs(97, list(b"aab\naba\n"))
+            needs(353, list(b"aab\naba\n"))
+            needs(97, list(b"aab\nab\n"))
         self.assertEqual(printed.getvalue(), "")
 
 

@@ -1,22 +1,11 @@
 import itertools
-import sys
 import unittest
 
-from books import COLOURS, answer_by_the_words, dyeings_of_book, full_book, lines_of, text
+from words import COLOURS, CallCase, dyeings_of_book, full_book, judge_by_the_words, lines_of, text
 from wooldyes.shares import NO_COLOUR, colour_number, judge
 
 
-class Guarded(list):
-    """A list that can't be changed, not for a while either."""
-
-    def refuse(self, *args, **kwargs):
-        raise AssertionError("what is handed in was changed")
-
-    append = extend = insert = pop = remove = clear = sort = reverse = refuse
-    __setitem__ = __delitem__ = __iadd__ = __imul__ = refuse
-
-
-class JudgeCase(unittest.TestCase):
+class JudgeCase(CallCase):
     def answers(self, written, expected):
         self.assertEqual(judge(text(written)), expected, written)
 
@@ -24,7 +13,7 @@ class JudgeCase(unittest.TestCase):
         self.assertEqual(judge(list(raw)), expected, raw)
 
     def as_the_words_say(self, raw):
-        self.assertEqual(judge(list(raw)), answer_by_the_words(raw), raw)
+        self.assertEqual(judge(list(raw)), judge_by_the_words(raw), raw)
 
 
 class TheRun(JudgeCase):
@@ -283,50 +272,26 @@ class OneText(JudgeCase):
 class TheCall(JudgeCase):
     TEXTS = ("", "a 10 4/a 14 3/a 11 3/", "b 1 1/a 1 1/", "a 1000 1/", "a 01 1/", "a 1 0/", "a 1 1", "a" * 4097)
 
+    def arguments(self):
+        return [(text(written),) for written in self.TEXTS]
+
     def test_what_is_handed_in_stays(self):
-        for written in self.TEXTS:
-            handed = Guarded(text(written))
-            judge(handed)
-            self.assertEqual(list(handed), text(written))
+        self.leaves_what_is_handed_in(judge, self.arguments())
 
     def test_a_second_call_answers_like_the_first(self):
-        for first, between in itertools.product(self.TEXTS, repeat=2):
-            handed = text(first)
-            answered = judge(handed)
-            copied = list(answered)
-            judge(text(between))
-            self.assertEqual(judge(handed), copied)
-            self.assertEqual(answered, copied)
+        self.answers_again_alike(judge, self.arguments())
 
     def test_an_answer_that_is_changed_changes_no_other(self):
-        for written in self.TEXTS:
-            answered = judge(text(written))
-            copied = list(answered)
-            answered.append(77)
-            self.assertEqual(judge(text(written)), copied)
+        self.keeps_no_answer(judge, self.arguments())
 
     def test_answers_are_lists_of_whole_numbers(self):
-        for written in self.TEXTS:
-            answered = judge(text(written))
-            self.assertIs(type(answered), list)
-            for number in answered:
-                self.assertIs(type(number), int)
+        self.answers_whole_numbers(judge, self.arguments())
 
     def test_long_texts_need_no_deep_calls(self):
         book = list(full_book(b" 999 99999\n"))
-        wrong = book + [48] * 1024
-        depth = 0
-        frame = sys._getframe()
-        while frame is not None:
-            depth += 1
-            frame = frame.f_back
-        limit = sys.getrecursionlimit()
-        sys.setrecursionlimit(depth + 30)
-        try:
-            answered = [judge(book), judge(wrong), judge([48] * 4096)]
-        finally:
-            sys.setrecursionlimit(limit)
-        self.assertEqual(answered, [[256], [-6, 3072], [-6, 1]])
+        self.assertEqual(self.with_few_calls_within(judge, book), [256])
+        self.assertEqual(self.with_few_calls_within(judge, book + [48] * 1024), [-6, 3072])
+        self.assertEqual(self.with_few_calls_within(judge, [48] * 4096), [-6, 1])
 
 
 class TheWords(unittest.TestCase):
@@ -335,7 +300,7 @@ class TheWords(unittest.TestCase):
     def test_the_run(self):
         self.assertEqual(dyeings_of_book(b"a 10 4\na 14 3\na 11 3\n"), 3)
         for written, place in (("b 1 1/a 1 1/", 6), ("a 1000 1/", 5), ("a 01 1/", 3), ("a 1 0/", 4)):
-            self.assertEqual(answer_by_the_words(bytes(text(written))), [-6, place])
+            self.assertEqual(judge_by_the_words(bytes(text(written))), [-6, place])
 
 
 if __name__ == "__main__":

@@ -1,14 +1,20 @@
 """Dyeings of wool shared out: the calls of the program."""
 
+# What a call answers first: 0 where more is told, or a refusal.
+NOT_REFUSED = 0
+NO_COLOUR = -1
 TOO_LONG = -2
 AT_FAULT = -6
-
-NO_COLOUR = -1
 
 BLANK = 32
 LINE_END = 10
 ZERO = 48
 NINE = 57
+
+MOST_CHART_BYTES = 66048
+MOST_WIDTH = 512
+MOST_HEIGHT = 512
+MOST_CHART_KNOTS = 65536
 
 MOST_BOOK_BYTES = 4096
 MOST_LINES = 256
@@ -105,3 +111,58 @@ def judge(b):
         colours.append(colour)
         start = ends[-1]
     return [len(colours)]
+
+
+def chart_rows(t):
+    """The rows of the chart's text t, without the bytes 10; what has no byte 10 behind it is left out."""
+    rows = []
+    start = 0
+    for place, byte in enumerate(t):
+        if byte == LINE_END:
+            rows.append(t[start:place])
+            start = place + 1
+    return rows
+
+
+def is_chart_row(row, width):
+    """Whether the row is so wide and has a colour at each knot."""
+    return len(row) == width and all([colour_number(byte) != NO_COLOUR for byte in row])
+
+
+def is_chart(t):
+    """Whether t is a right chart's text."""
+    if len(t) == 0 or t[-1] != LINE_END:
+        return False
+    rows = chart_rows(t)
+    width = len(rows[0])
+    if width < 1 or width > MOST_WIDTH or len(rows) > MOST_HEIGHT:
+        return False
+    if width * len(rows) > MOST_CHART_KNOTS:
+        return False
+    return all([is_chart_row(row, width) for row in rows])
+
+
+def texts_refusal(t, b):
+    """The refusal of a chart's text t and a book's text b, or NOT_REFUSED."""
+    if len(t) > MOST_CHART_BYTES or len(b) > MOST_BOOK_BYTES:
+        return TOO_LONG
+    if not is_chart(t) or judge(b)[0] == AT_FAULT:
+        return AT_FAULT
+    return NOT_REFUSED
+
+
+def refusal(colour, t, b):
+    """The refusal of the texts, then of the colour, or NOT_REFUSED."""
+    refused = texts_refusal(t, b)
+    if refused == NOT_REFUSED and colour_number(colour) == NO_COLOUR:
+        return NO_COLOUR
+    return refused
+
+
+def needs(colour, t):
+    """0 and the colour's need in each row of the chart's text t; or -2, -6 or -1."""
+    # The empty text is a book's: only t and the colour can be refused here.
+    refused = refusal(colour, t, [])
+    if refused != NOT_REFUSED:
+        return [refused]
+    return [NOT_REFUSED] + [row.count(colour) for row in chart_rows(t)]
