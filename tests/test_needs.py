@@ -1,14 +1,13 @@
 import itertools
 import unittest
 
-from words import COLOURS, CallCase, chart_of, needs_by_the_words, plain_chart, rows_of_chart, text
+from words import COLOURS, NO_COLOURS, CallCase, chart_of, needs_by_the_words, plain_chart, rows_of_chart, text
 from wooldyes.shares import needs
 
 A = ord("a")
 B = ord("b")
 C = ord("c")
 RUN = "aab/aba/bbb/aaa/"
-NO_COLOURS = (0, 10, 32, 255, 256, 353, 4294967295)
 
 
 class NeedsCase(CallCase):
@@ -150,7 +149,8 @@ class NoRightCharts(NeedsCase):
     def test_every_byte_that_is_no_colour(self):
         for byte in range(256):
             wrong = bytes([byte])
-            for raw in (wrong + b"\n", b"ab" + wrong + b"\n", b"abc\nb" + wrong + b"c\nabc\n", b"abc\nab" + wrong + b"\n"):
+            for before, behind in ((b"", b"\n"), (b"ab", b"\n"), (b"abc\nb", b"c\nabc\n"), (b"abc\nab", b"\n")):
+                raw = before + wrong + behind
                 self.as_the_words_say(A, raw)
                 self.assertEqual(needs(A, list(raw))[0], 0 if byte in COLOURS else -6)
 

@@ -1,6 +1,7 @@
 """Texts for the tests, the document's words taken as they stand, and what every call is held to."""
 
 import itertools
+import random
 import re
 import sys
 import unittest
@@ -94,6 +95,103 @@ def needs_by_the_words(colour, raw):
     return [0] + [sum(knot == colour for knot in row) for row in rows]
 
 
+def dyeings_of_colour(colour, raw):
+    """The shade and the knots of each dyeing of the colour in the book's text."""
+    lines = [line.split() for line in raw.split(b"\n")[:-1]]
+    return [(int(line[1]), int(line[2])) for line in lines if line[0] == bytes([colour])]
+
+
+def rows_given(row_needs, dyeings, way):
+    """The rows that each dyeing of the way takes, or None if the way doesn't go."""
+    waiting = [y for y, need in enumerate(row_needs) if need > 0]
+    given = []
+    for number in way:
+        taken = []
+        while waiting and sum(row_needs[y] for y in taken + waiting[:1]) <= dyeings[number][1]:
+            taken.append(waiting.pop(0))
+        if not taken:
+            return None
+        given.append(taken)
+    return None if waiting else given
+
+
+def cost_of_way(dyeings, way):
+    return sum(abs(dyeings[one][0] - dyeings[other][0]) for one, other in zip(way, way[1:]))
+
+
+def ways_that_go(row_needs, dyeings):
+    """Every way that goes, found by trying every order of some of the dyeings."""
+    going = []
+    for many in range(len(dyeings) + 1):
+        for way in itertools.permutations(range(len(dyeings)), many):
+            if rows_given(row_needs, dyeings, way) is not None:
+                going.append(way)
+    return going
+
+
+def told_by_the_words(row_needs, dyeings):
+    """The way that's told, or None."""
+    going = ways_that_go(row_needs, dyeings)
+    return min(going, key=lambda way: (cost_of_way(dyeings, way), len(way), way), default=None)
+
+
+def share_by_the_words(colour, chart, book):
+    """What share has to answer for a right chart, a right book and a colour."""
+    row_needs = needs_by_the_words(colour, chart)[1:]
+    dyeings = dyeings_of_colour(colour, book)
+    way = told_by_the_words(row_needs, dyeings)
+    if way is None:
+        return [-5]
+    answer = [0]
+    for number, rows in zip(way, rows_given(row_needs, dyeings, way)):
+        answer += [number, rows[0], rows[-1], sum(row_needs[y] for y in rows)]
+    return answer
+
+
+def chart_of_needs(row_needs, width=None):
+    """A chart in which the rows need so many knots of a, the other knots being of b."""
+    width = width or max(max(row_needs), 1)
+    return chart_of([b"a" * need + b"b" * (width - need) for need in row_needs])
+
+
+def book_of(dyeings, colour=97):
+    """A book's text with these dyeings, shade and knots, of one colour."""
+    return b"".join(b"%c %d %d\n" % (colour, shade, knots) for shade, knots in dyeings)
+
+
+def small_cases(seed, many):
+    """Charts of a few rows and colours with books for them, made anew alike from the seed."""
+    chance = random.Random(seed)
+    for k in range(many):
+        width = chance.randint(1, 6)
+        height = chance.randint(1, 8)
+        rows = [bytes(chance.choice(b"aaabbc") for x in range(width)) for y in range(height)]
+        shades = chance.choice((2, 9, 999))
+        book = b""
+        for colour in b"abcd":
+            dyeings = range(chance.choice((0, 1, 2, 3, 4, 4, 5)) if k % 8 else 6)
+            enough = max(1, width * height // max(1, len(dyeings)))
+            book += book_of([(chance.randint(0, shades), chance.randint(1, enough)) for n in dyeings], colour)
+        yield chart_of(rows), book
+
+
+RUN_CHART = b"aab\naba\nbbb\naaa\n"
+RUN_BOOK = b"a 10 4\na 14 3\na 11 3\n"
+# The run's chart with a book that is enough for both colours.
+RIGHT = (97, RUN_CHART, RUN_BOOK + b"b 5 9\n")
+NO_COLOURS = (0, 10, 32, 255, 256, 353, 4294967295)
+# What can be refused, in the document's order: the refusal, which argument, and several that are at fault.
+# Among the long texts are such that are wrong too, and among the wrong books such that no way goes with.
+FAULTS = (
+    (-2, 1, (b"a" * 66049, b" " * 66500, plain_chart(256, 257), plain_chart(128, 512) + b"a")),
+    (-2, 2, (b"a" * 4097, b" " * 5000, (b"a 1 99\n" * 700)[:4097], (b"b 1 99\n" * 700)[:4097])),
+    (-6, 1, (b"", b"aab\naba", b"aab\nab\n", b"aab\n\n", b"a a\n", plain_chart(257, 256), b"a" * 66048)),
+    (-6, 2, (b"a 01 99\n", b"b 01 99\n", b"a 1 99", lines_of(b"aaaaaaa"), lines_of(b"ba"), b"a" * 4096)),
+    (-1, 0, NO_COLOURS),
+    (-5, 2, (b"", b"b 5 9\n", b"a 10 4\na 14 2\nb 5 9\n", b"a 10 4\nb 5 9\n", b"A 10 99999\nB 5 9\n")),
+)
+
+
 class Guarded(list):
     """A list that can't be changed, not for a while either."""
 
@@ -146,6 +244,25 @@ class CallCase(unittest.TestCase):
         self.answers_again_alike(call, many)
         self.keeps_no_answer(call, many)
         self.answers_whole_numbers(call, many)
+
+    def refuses(self, call, faults, expected):
+        """The call with the faults' arguments in the place of right ones answers what is expected."""
+        arguments = list(RIGHT)
+        for place, wrong in faults:
+            arguments[place] = wrong
+        self.assertEqual(call(*fresh(arguments)), expected, [(place, str(wrong)[:40]) for place, wrong in faults])
+
+    def refuses_each_alone(self, call, faults, answer=lambda refused: [refused]):
+        for refused, place, many in faults:
+            for wrong in many:
+                self.refuses(call, [(place, wrong)], answer(refused))
+
+    def refuses_the_first_of_two(self, call, faults, answer=lambda refused: [refused]):
+        for first, second in itertools.combinations(faults, 2):
+            # Faults of one text stand together in the wrong texts themselves.
+            if first[1] != second[1]:
+                for one, other in itertools.product(first[2], second[2]):
+                    self.refuses(call, [(first[1], one), (second[1], other)], answer(first[0]))
 
     def with_few_calls_within(self, call, *arguments):
         """What the call answers where only some thirty calls within one another are allowed."""

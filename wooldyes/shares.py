@@ -4,6 +4,7 @@
 NOT_REFUSED = 0
 NO_COLOUR = -1
 TOO_LONG = -2
+NO_WAY = -5
 AT_FAULT = -6
 
 BLANK = 32
@@ -29,6 +30,31 @@ LINE_PARTS = 6
 SHADE_PART = 2
 KNOTS_PART = 4
 END_PART = 5
+
+
+class Dyeing:
+    def __init__(self, shade, knots):
+        """A dyeing of a colour: its shade and how many knots it's enough for."""
+        self.shade = shade
+        self.knots = knots
+
+
+class Need:
+    def __init__(self, row, knots):
+        """A row that needs a colour, and how many knots of it."""
+        self.row = row
+        self.knots = knots
+
+
+class Way:
+    def __init__(self, change, numbers, ends):
+        """A way or the beginning of one: its cost, its dyeings' numbers, and the places where their rows end.
+
+        The places count the rows that need the colour; dyeing k of the way takes them from ends[k] to ends[k + 1].
+        """
+        self.change = change
+        self.numbers = numbers
+        self.ends = ends
 
 
 def colour_number(byte):
@@ -166,3 +192,106 @@ def needs(colour, t):
     if refused != NOT_REFUSED:
         return [refused]
     return [NOT_REFUSED] + [row.count(colour) for row in chart_rows(t)]
+
+
+def part_number(text, ends, part):
+    """The number that is a line's part, the parts' ends being known."""
+    value = 0
+    for digit in text[ends[part - 1]:ends[part]]:
+        value = value * 10 + digit - ZERO
+    return value
+
+
+def book_dyeings(b):
+    """The dyeings of the right book's text b, for each colour's byte in it a list as their lines come."""
+    dyeings = {}
+    start = 0
+    while start < len(b):
+        ends = line_ends(b, start)
+        dyeing = Dyeing(part_number(b, ends, SHADE_PART), part_number(b, ends, KNOTS_PART))
+        dyeings.setdefault(b[start], []).append(dyeing)
+        start = ends[-1]
+    return dyeings
+
+
+def rows_in_need(colour, rows):
+    """The rows that need the colour, from the top."""
+    return [Need(y, row.count(colour)) for y, row in enumerate(rows) if colour in row]
+
+
+def ends_from_each(wanted, knots):
+    """Of each place among the wanted rows: the place behind the rows that so many knots are enough for from there."""
+    ends = []
+    end = 0
+    spare = knots
+    for start, need in enumerate(wanted):
+        while end < len(wanted) and wanted[end].knots <= spare:
+            spare -= wanted[end].knots
+            end += 1
+        ends.append(end)
+        if end > start:
+            spare += need.knots
+        else:
+            end = start + 1
+    return ends
+
+
+def longer_ways(way, dyeings, ends):
+    """The way with one dyeing more that takes a row, ends[n][place] being where dyeing n ends from a place."""
+    place = way.ends[-1]
+    longer = []
+    for number, dyeing in enumerate(dyeings):
+        end = ends[number][place]
+        if number not in way.numbers and end > place:
+            change = way.change
+            if len(way.numbers) > 0:
+                change += abs(dyeing.shade - dyeings[way.numbers[-1]].shade)
+            longer.append(Way(change, way.numbers + [number], way.ends + [end]))
+    return longer
+
+
+def rank(way):
+    """What tells which way that goes is told: the least."""
+    return (way.change, len(way.numbers), way.numbers)
+
+
+def told_way(wanted, dyeings):
+    """The way that's told for the wanted rows, or None if no way goes."""
+    ends = [ends_from_each(wanted, dyeing.knots) for dyeing in dyeings]
+    begun = [Way(0, [], [0])]
+    going = []
+    # A way ends with the last row: one more dyeing would take none.
+    while len(begun) > 0:
+        going.extend([way for way in begun if way.ends[-1] == len(wanted)])
+        unfinished = [way for way in begun if way.ends[-1] < len(wanted)]
+        begun = []
+        for way in unfinished:
+            begun.extend(longer_ways(way, dyeings, ends))
+    return min(going, key=rank, default=None)
+
+
+def answer_of_way(colour, t, b, tell):
+    """What tell(way, wanted, dyeings) makes of the way that's told; or -2, -6, -1 or -5."""
+    refused = refusal(colour, t, b)
+    if refused != NOT_REFUSED:
+        return [refused]
+    wanted = rows_in_need(colour, chart_rows(t))
+    dyeings = book_dyeings(b).get(colour, [])
+    way = told_way(wanted, dyeings)
+    if way is None:
+        return [NO_WAY]
+    return tell(way, wanted, dyeings)
+
+
+def tell_share(way, wanted, dyeings):
+    """0 and of each dyeing of the way its number, its first row, its last row and its knots."""
+    told = [NOT_REFUSED]
+    for k, number in enumerate(way.numbers):
+        taken = wanted[way.ends[k]:way.ends[k + 1]]
+        told.extend([number, taken[0].row, taken[-1].row, sum([need.knots for need in taken])])
+    return told
+
+
+def share(colour, t, b):
+    """0 and the way that's told, four numbers a dyeing; or -2, -6, -1 or -5."""
+    return answer_of_way(colour, t, b, tell_share)
