@@ -8,7 +8,7 @@ import re
 import unittest
 
 import wooldyes
-from wooldyes.shares import judge, needs, share
+from wooldyes.shares import cost, judge, needs, share
 
 FOLDER = pathlib.Path(wooldyes.__file__).parent
 FILES = sorted(FOLDER.rglob("*.py"))
@@ -54,6 +54,8 @@ class Form(unittest.TestCase):
             needs(97, list(b"aab\nab\n"))
             share(97, list(b"aab\naba\n"), list(b"a 10 4\n"))
             share(98, list(b"aab\naba\n"), list(b"a 10 4\n"))
+            cost(97, list(b"aab\naba\n"), list(b"a 10 4\n"))
+            cost(98, list(b"aab\naba\n"), list(b"a 10 4\n"))
         self.assertEqual(printed.getvalue(), "")
 
 

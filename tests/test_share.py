@@ -2,7 +2,7 @@ import itertools
 import unittest
 
 from words import (
-    COLOURS, FAULTS, NO_COLOURS, RIGHT, RUN_BOOK, RUN_CHART, CallCase, book_of, chart_of, chart_of_needs,
+    COLOURS, FAULTS, MANY_CALLS, NO_COLOURS, RUN_BOOK, RUN_CHART, CallCase, book_of, chart_of, chart_of_needs,
     cost_of_way, dyeings_of_colour, full_book, lines_of, needs_by_the_words, plain_chart, rows_given,
     share_by_the_words, small_cases, told_by_the_words, ways_that_go,
 )
@@ -352,24 +352,16 @@ class Large(ShareCase):
 
 
 class TheCall(ShareCase):
-    MANY = (
-        RIGHT, (A, RUN_CHART, RUN_BOOK), (B, RUN_CHART, RUN_BOOK), (C, RUN_CHART, RUN_BOOK),
-        (353, RUN_CHART, RUN_BOOK), (A, b"aa\na\n", RUN_BOOK), (A, RUN_CHART, b"a 01 1\n"),
-        (A, b"a" * 66049, RUN_BOOK), (A, RUN_CHART, b"a" * 4097), (A, chart_of_needs([1] * 6), lines_of(b"aaaaaa")),
-    )
-
     def test_what_is_handed_in_stays(self):
-        self.leaves_what_is_handed_in(share, self.MANY)
+        self.leaves_what_is_handed_in(share, MANY_CALLS)
         self.leaves_what_is_handed_in(share, [(A, plain_chart(128, 512), full_book(b" 9 11008\n"))])
 
     def test_a_second_call_answers_like_the_first(self):
-        self.answers_again_alike(share, self.MANY)
+        self.answers_again_alike(share, MANY_CALLS)
 
-    def test_an_answer_that_is_changed_changes_no_other(self):
-        self.keeps_no_answer(share, self.MANY)
-
-    def test_answers_are_lists_of_whole_numbers(self):
-        self.answers_whole_numbers(share, self.MANY)
+    def test_answers_are_new_lists_of_whole_numbers(self):
+        self.keeps_no_answer(share, MANY_CALLS)
+        self.answers_whole_numbers(share, MANY_CALLS)
 
     def test_the_arguments_names(self):
         self.assertEqual(share(colour=A, t=list(RUN_CHART), b=list(RUN_BOOK)), [0, 0, 0, 1, 4, 2, 3, 3, 3])

@@ -148,6 +148,13 @@ def share_by_the_words(colour, chart, book):
     return answer
 
 
+def cost_by_the_words(colour, chart, book):
+    """What cost has to answer for a right chart, a right book and a colour."""
+    dyeings = dyeings_of_colour(colour, book)
+    way = told_by_the_words(needs_by_the_words(colour, chart)[1:], dyeings)
+    return [-5] if way is None else [cost_of_way(dyeings, way)]
+
+
 def chart_of_needs(row_needs, width=None):
     """A chart in which the rows need so many knots of a, the other knots being of b."""
     width = width or max(max(row_needs), 1)
@@ -189,6 +196,14 @@ FAULTS = (
     (-6, 2, (b"a 01 99\n", b"b 01 99\n", b"a 1 99", lines_of(b"aaaaaaa"), lines_of(b"ba"), b"a" * 4096)),
     (-1, 0, NO_COLOURS),
     (-5, 2, (b"", b"b 5 9\n", b"a 10 4\na 14 2\nb 5 9\n", b"a 10 4\nb 5 9\n", b"A 10 99999\nB 5 9\n")),
+)
+
+
+# Arguments of calls by a colour, a chart and a book: answered ones and one of each refusal.
+MANY_CALLS = (
+    RIGHT, (97, RUN_CHART, RUN_BOOK), (98, RUN_CHART, RUN_BOOK), (99, RUN_CHART, RUN_BOOK),
+    (353, RUN_CHART, RUN_BOOK), (97, b"aa\na\n", RUN_BOOK), (97, RUN_CHART, b"a 01 1\n"),
+    (97, b"a" * 66049, RUN_BOOK), (97, RUN_CHART, b"a" * 4097), (97, chart_of_needs([1] * 6), lines_of(b"aaaaaa")),
 )
 
 
@@ -238,12 +253,6 @@ class CallCase(unittest.TestCase):
             self.assertIs(type(answered), list)
             for number in answered:
                 self.assertIs(type(number), int)
-
-    def is_a_call(self, call, many):
-        self.leaves_what_is_handed_in(call, many)
-        self.answers_again_alike(call, many)
-        self.keeps_no_answer(call, many)
-        self.answers_whole_numbers(call, many)
 
     def refuses(self, call, faults, expected):
         """The call with the faults' arguments in the place of right ones answers what is expected."""

@@ -295,3 +295,13 @@ def tell_share(way, wanted, dyeings):
 def share(colour, t, b):
     """0 and the way that's told, four numbers a dyeing; or -2, -6, -1 or -5."""
     return answer_of_way(colour, t, b, tell_share)
+
+
+def tell_cost(way, wanted, dyeings):
+    """The way's cost."""
+    return [way.change]
+
+
+def cost(colour, t, b):
+    """The cost of the way that's told; or -2, -6, -1 or -5."""
+    return answer_of_way(colour, t, b, tell_cost)
