@@ -8,7 +8,7 @@ import re
 import unittest
 
 import wooldyes
-from wooldyes.shares import cost, judge, needs, share
+from wooldyes.shares import all_costs, cost, judge, needs, share
 
 FOLDER = pathlib.Path(wooldyes.__file__).parent
 FILES = sorted(FOLDER.rglob("*.py"))
@@ -56,6 +56,8 @@ class Form(unittest.TestCase):
             share(98, list(b"aab\naba\n"), list(b"a 10 4\n"))
             cost(97, list(b"aab\naba\n"), list(b"a 10 4\n"))
             cost(98, list(b"aab\naba\n"), list(b"a 10 4\n"))
+            all_costs(list(b"aab\naba\n"), list(b"a 10 4\n"))
+            all_costs(list(b"aab\naba\n"), list(b"a 10 4\nb 1 9\n"))
         self.assertEqual(printed.getvalue(), "")
 
 

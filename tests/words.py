@@ -155,6 +155,12 @@ def cost_by_the_words(colour, chart, book):
     return [-5] if way is None else [cost_of_way(dyeings, way)]
 
 
+def all_costs_by_the_words(chart, book):
+    """What all_costs has to answer for a right chart and a right book."""
+    costs = [cost_by_the_words(colour, chart, book)[0] for colour in COLOURS]
+    return [-5, costs.index(-5)] if -5 in costs else [sum(costs)]
+
+
 def chart_of_needs(row_needs, width=None):
     """A chart in which the rows need so many knots of a, the other knots being of b."""
     width = width or max(max(row_needs), 1)

@@ -68,6 +68,11 @@ def colour_number(byte):
     return NO_COLOUR
 
 
+def colours_by_number():
+    """The bytes of all colours, in the order of their numbers."""
+    return list(range(97, 123)) + list(range(65, 91)) + list(range(ZERO, NINE + 1))
+
+
 def byte_end(text, start, byte):
     """The place behind the byte, or start if it does not stand there."""
     if start < len(text) and text[start] == byte:
@@ -305,3 +310,19 @@ def tell_cost(way, wanted, dyeings):
 def cost(colour, t, b):
     """The cost of the way that's told; or -2, -6, -1 or -5."""
     return answer_of_way(colour, t, b, tell_cost)
+
+
+def all_costs(t, b):
+    """The costs of all colours together; or -2 or -6; or -5 and the number of the first colour without a way."""
+    refused = texts_refusal(t, b)
+    if refused != NOT_REFUSED:
+        return [refused]
+    rows = chart_rows(t)
+    dyeings = book_dyeings(b)
+    together = 0
+    for number, colour in enumerate(colours_by_number()):
+        way = told_way(rows_in_need(colour, rows), dyeings.get(colour, []))
+        if way is None:
+            return [NO_WAY, number]
+        together += way.change
+    return [together]
