@@ -155,6 +155,17 @@ def cost_by_the_words(colour, chart, book):
     return [-5] if way is None else [cost_of_way(dyeings, way)]
 
 
+def left_by_the_words(colour, chart, book):
+    """What left has to answer for a right chart, a right book and a colour."""
+    row_needs = needs_by_the_words(colour, chart)[1:]
+    dyeings = dyeings_of_colour(colour, book)
+    way = told_by_the_words(row_needs, dyeings)
+    if way is None:
+        return [-5]
+    given = dict(zip(way, rows_given(row_needs, dyeings, way)))
+    return [0] + [knots - sum(row_needs[y] for y in given.get(n, [])) for n, (shade, knots) in enumerate(dyeings)]
+
+
 def all_costs_by_the_words(chart, book):
     """What all_costs has to answer for a right chart and a right book."""
     costs = [cost_by_the_words(colour, chart, book)[0] for colour in COLOURS]

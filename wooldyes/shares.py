@@ -288,12 +288,18 @@ def answer_of_way(colour, t, b, tell):
     return tell(way, wanted, dyeings)
 
 
+def knots_taken(way, wanted, k):
+    """How many knots the wanted rows that dyeing k of the way takes need."""
+    return sum([need.knots for need in wanted[way.ends[k]:way.ends[k + 1]]])
+
+
 def tell_share(way, wanted, dyeings):
     """0 and of each dyeing of the way its number, its first row, its last row and its knots."""
     told = [NOT_REFUSED]
     for k, number in enumerate(way.numbers):
-        taken = wanted[way.ends[k]:way.ends[k + 1]]
-        told.extend([number, taken[0].row, taken[-1].row, sum([need.knots for need in taken])])
+        first = wanted[way.ends[k]]
+        last = wanted[way.ends[k + 1] - 1]
+        told.extend([number, first.row, last.row, knots_taken(way, wanted, k)])
     return told
 
 
@@ -326,3 +332,16 @@ def all_costs(t, b):
             return [NO_WAY, number]
         together += way.change
     return [together]
+
+
+def tell_left(way, wanted, dyeings):
+    """0 and of each dyeing of the colour, in the book's order, the knots that the way leaves of it."""
+    knots = [dyeing.knots for dyeing in dyeings]
+    for k, number in enumerate(way.numbers):
+        knots[number] -= knots_taken(way, wanted, k)
+    return [NOT_REFUSED] + knots
+
+
+def left(colour, t, b):
+    """0 and what is left of each dyeing of the colour behind the way that's told; or -2, -6, -1 or -5."""
+    return answer_of_way(colour, t, b, tell_left)
